@@ -1,0 +1,1 @@
+"""Ledalong: machines led along self-made worlds."""

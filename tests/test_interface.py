@@ -1,0 +1,62 @@
+"""The interface: names, parameters, and the files in which they are defined."""
+
+import importlib
+import inspect
+import unittest
+
+FUNCTIONS = {
+    "kinds": ("is_integer(thing)", "is_number(thing)", "is_word(rule, thing)", "is_rule(thing)", "is_machine(thing)",
+              "is_standing(machine, thing)", "is_reader(thing)"),
+    "judges": ("lets_rule(thing)", "lets_machine(thing)", "lets_reader(thing)"),
+    "ruleparts": ("letters_of(rule)", "becomes(rule, word)", "turned(rule)", "power(rule, n)", "renamed(rule, names)"),
+    "changes": ("standings_renamed(machine, order)", "cut_to(machine, standings)", "answers_renamed(machine, answers)",
+                "letters_by(machine, words)", "led_behind(machine, other)"),
+    "texts": ("rule_line(rule)", "word_line(word)", "machine_line(machine)", "reader_line(reader)"),
+    "readings": ("rule_read(text)", "word_read(text)", "machine_read(text)", "reader_read(text)"),
+    "worlds": ("grows(rule)", "legal_pairs(rule)", "is_word_of(rule, word)", "words_of(rule, length)",
+               "following(rule, word)", "ahead_of(rule, word)"),
+    "again": ("level_of_word(rule, word)", "stretch_of_word(rule, word)", "first_in(rule, letter, word)"),
+    "wordcounts": ("how_many(rule, length)", "branching(rule, length)"),
+    "roundness": ("comes_round(rule)", "round_paper(rule)", "lets_round(rule, thing)"),
+    "blocks": ("block_of(rule, letter, level)", "length_of(rule, letter, level)", "lengths_of(rule, letter, level)",
+               "counts_in(rule, letter, level)"),
+    "farplaces": ("letter_at(rule, letter, level, place)", "word_at(rule, letter, level, place, length)",
+                  "path_to(rule, letter, level, place)", "place_by(rule, letter, path)",
+                  "count_before(rule, letter, level, place, other)", "place_of(rule, letter, level, other, index)",
+                  "seeds(rule)", "level_holding(rule, letter, place)"),
+    "parents": ("parents_of(rule, word)", "is_parent(rule, word, thing)", "grandparents(rule, word, n)",
+                "one_parent(rule, length)", "seams_of(rule, word)", "seams_told(rule, length)", "told_from(rule, most)"),
+}
+COMMON = ("read", "__init__", "__getitem__", "__call__", "__contains__", "__len__", "__iter__", "__eq__", "__str__")
+CLASSES = {
+    "Rule(blocks)": COMMON + ("rule_now", "even_now", "__pow__", "__invert__"),
+    "Machine(standings)": COMMON + ("machine_now", "letters_now", "__add__"),
+    "Reader(base, moves, shows)": COMMON + ("reader_now", "base_now"),
+}
+
+
+class Interface(unittest.TestCase):
+
+    def test_functions(self):
+        for name, told in FUNCTIONS.items():
+            module = importlib.import_module("ledalong." + name)
+            for text in told:
+                function = getattr(module, text.split("(")[0])
+                self.assertTrue(inspect.isfunction(function))
+                self.assertEqual(function.__module__, "ledalong." + name)
+                self.assertEqual(function.__name__ + str(inspect.signature(function)), text)
+
+    def test_classes(self):
+        module = importlib.import_module("ledalong.objects")
+        for text, names in CLASSES.items():
+            made = getattr(module, text.split("(")[0])
+            self.assertEqual(made.__module__, "ledalong.objects")
+            self.assertEqual(made.__name__ + str(inspect.signature(made)), text)
+            for name in names:
+                self.assertIn(name, vars(made))
+            self.assertIsInstance(vars(made)["read"], staticmethod)
+            self.assertEqual(str(inspect.signature(made.read)), "(text)")
+
+
+if __name__ == "__main__":
+    unittest.main()
