@@ -97,7 +97,7 @@ class Language(unittest.TestCase):
             bound = {node.id for node in ast.walk(tree) if isinstance(node, ast.Name) and isinstance(node.ctx, ast.Store)}
             bound |= {node.arg for node in ast.walk(tree) if isinstance(node, ast.arg)}
             self.assertFalse(bound & (imported | classes), name)
-            self.assertFalse((bound | own) & set(dir(builtins)), name)
+            self.assertFalse((bound | own) & set(dir(builtins)) - {"_"}, name)
             read = {node.id for node in ast.walk(tree) if isinstance(node, ast.Name) and isinstance(node.ctx, ast.Load)}
             self.assertFalse(read - bound - own - imported - BUILTINS, name)
             self.assertNotIn("_", read)
