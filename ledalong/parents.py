@@ -31,7 +31,7 @@ def is_parent(rule, word, thing):
     if skip >= len(rule[above[0]]) or rest >= len(rule[above[-1]]):
         return False
     far = spread(rule, above)
-    return len(far) == skip + len(word) + rest and far[skip:len(far) - rest] == word
+    return far[skip:len(far) - rest] == word
 
 
 def grandparents(rule, word, n):

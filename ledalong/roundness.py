@@ -25,18 +25,13 @@ def round_paper(rule):
 def lets_round(rule, thing):
     """True for a paper that the rule comes round, False for one that it does not."""
     need(is_growing(rule), "rule")
-    if is_long(thing, 2) and is_name(thing[0], "round"):
+    if is_long(thing, 2) and thing[0] == "round":
         judge_round(rule, thing[1])
         return True
-    if is_long(thing, 5) and is_name(thing[0], "branch"):
+    if is_long(thing, 5) and thing[0] == "branch":
         judge_branch(rule, thing)
         return False
     raise InvalidPaper("shape", -1)
-
-
-def is_name(thing, name):
-    """Whether any value is the string name."""
-    return isinstance(thing, str) and thing == name
 
 
 def paper_of(rule):

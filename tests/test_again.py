@@ -8,7 +8,8 @@ from tests.samples import GOLD, GROWING, LONG, NO_GROWING, THUE, Case, no_below
 from tests.test_worlds import no_words_of, world
 
 # Some words of these come again only behind thousands of letters.
-RARE = (((0, 1, 2, 3), (1, 2, 3, 0), (2, 3, 0, 1), (3, 0, 1, 2)), ((2, 1, 2, 3), (2, 1, 1, 1), (0,), (2, 2)))
+RARE = (((0, 1, 2, 3), (1, 2, 3, 0), (2, 3, 0, 1), (3, 0, 1, 2)), ((2, 1, 2, 3), (2, 1, 1, 1), (0,), (2, 2)),
+        ((2, 2, 2, 2), (2, 2, 2, 2), (1, 1, 3, 3), (1, 0, 0, 0)))
 
 
 def some_words(rule):

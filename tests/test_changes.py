@@ -73,9 +73,11 @@ class Changes(Case):
             self.exactly(led_behind(led_behind(one, two), three), led_behind(one, led_behind(two, three)))
 
     def test_refusals(self):
-        orders = NO_TUPLES + ((), (0,), (0, 0), (1, 1), (0, 2), (0, 1, 2), (True, 0), (0, True), (-1, 0), (1, None))
+        orders = NO_TUPLES + ((), (0,), (0, 0), (1, 1), (0, 2), (0, 1, 2), (0, 1, 1), (1, 0, 0), (True, 0), (0, True))
+        orders += ((-1, 0), (1, None))
         self.refuses_each(standings_renamed, {"machine": TURN, "order": (1, 0)}, {"machine": NO_MACHINES, "order": orders})
         sets = NO_TUPLES + ((), (1, 0), (0, 0), (0, 2), (2,), (-1,), (True,), (0, True), (None,), ("0",), (0, 1, 1), (1,))
+        sets += ((0, 2, 1), (2, 1, 0), (0, 1, 2, 2), (0, 0, 1, 2), (0, 1, 2, 3), (0, 1, True))
         self.refuses_each(cut_to, {"machine": SLOW, "standings": (0, 1, 2)}, {"machine": NO_MACHINES, "standings": sets})
         pairs = NO_TUPLES + ((0,), ((),), ((0,),), ((0, 1, 2),), ([0, 1],), ((0, 1), (0, 1)), ((0, 1), (2, 3), (0, 2)))
         pairs += tuple(((value, 1),) for value in NO_NUMBERS) + tuple(((0, 1), (1, value)) for value in NO_NUMBERS)

@@ -128,7 +128,7 @@ class Lines(Case):
         self.exactly(machine_read("machine 0:" + sixty), (((0, int(sixty)),),))
         self.exactly(reader_read("reader 2 0,0:" + sixty), (2, ((0, 0),), (int(sixty),)))
         for bad in (more, "-1", "+1", "-0", "00", "01", "0" * 61, "1.0", "1e3", "1_0", "0x1", "a", "", "\t1", "1\n", "()", "None",
-                    "True", ",", ":", "1,", ",1"):
+                    "True", ",", ":", "1,", ",1", "\u0663", "\u00b2"):
             self.cannot(word_read, "word 5 " + bad, 2)
             self.cannot(rule_read, "rule 0 " + bad, 2)
             self.cannot(rule_read, "rule 0,0," + bad, 1)

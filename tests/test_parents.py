@@ -49,6 +49,19 @@ class Parents(Case):
                     self.assertTrue(skip < len(rule[above[0]]) and rest < len(rule[above[-1]]))
                 self.assertIn((word, 0, 0), parents_of(rule, plain.spread(rule, word)))
 
+    def test_a_long_word_with_blocks_that_are_the_same(self):
+        rule = ((3, 2, 0), (3, 2, 0), (2, 1, 2), (3, 2, 1))
+        word = plain.block(rule, 0, 6)[:300]
+        expected = set()
+        for above in words_of(rule, 102):
+            far = plain.spread(rule, above)
+            for skip in range(3):
+                if far[skip:skip + 300] == word:
+                    many = -((-300 - skip) // 3)
+                    expected.add((above[:many], skip, 3 * many - skip - 300))
+        self.assertTrue(expected)
+        self.exactly(parents_of(rule, word), tuple(sorted(expected)))
+
     def test_is_parent(self):
         for rule in GROWING[:14]:
             for word in sorted(world(rule))[1:200:17]:

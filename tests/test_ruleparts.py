@@ -58,7 +58,8 @@ class RuleParts(Case):
                     self.exactly(becomes(other, called), tuple(names[a] for a in becomes(rule, word)))
 
     def test_refusals(self):
-        no_names = NO_TUPLES + ((), (0,), (0, 0), (1, 1), (0, 2), (1, 2), (0, 1, 2), (True, 0), (0, True), (-1, 0), (None, 0))
+        no_names = NO_TUPLES + ((), (0,), (0, 0), (1, 1), (0, 2), (1, 2), (0, 1, 2), (0, 1, 1), (1, 0, 0), (True, 0))
+        no_names += ((0, True), (-1, 0), (None, 0))
         self.refuses_each(letters_of, {"rule": GOLD}, {"rule": NO_RULES})
         self.refuses_each(turned, {"rule": GOLD}, {"rule": NO_RULES})
         self.refuses_each(becomes, {"rule": GOLD, "word": (0,)}, {"rule": NO_RULES, "word": no_words(2)})
