@@ -22,6 +22,8 @@ BRANCHING = (
     # Two blocks of these are the same, so that what becomes of words is the same for long.
     ((3, 0, 0), (3, 0, 0), (1,), (0, 2)), ((2, 1, 3), (2, 1, 3), (1, 2), (0, 2)),
     ((2, 2, 2, 2), (2, 2, 2, 2), (1, 1, 3, 3), (1, 0, 0, 0)),
+    # What becomes of 0 is what becomes of 1 3; of 1 of 2 0; of 0 of 2 1.
+    ((0, 2, 0, 0), (0, 2), (1, 3), (0, 0)), ((1, 1), (1, 3, 1, 1), (1, 3), (2, 0)), ((0, 3, 0, 0), (0, 0), (0, 3), (2, 1)),
 )
 
 # Rules that grow and come round, each with the least word that is repeated.
