@@ -106,9 +106,9 @@ def judge_round(rule, word):
 def is_all_round(rule, word):
     """Whether all rows repeat a word of the rule.
 
-    They do if, for each legal pair, both blocks of a level stand in the word again and again, and
-    have as many letters: then each letter is the one that stands so many letters behind it. A
-    state of the table is the place in the word, or the number of its letters where it was left.
+    They do if, at a level whose blocks have no fewer letters than the word, both blocks of each legal
+    pair stand in the word again and again: then each letter comes again behind so many letters. A
+    state of the table is a place in the word, or, once a letter was another one, how many it has.
     """
     lost = len(word)
     table = [[(place + 1) % lost if a == letter else lost for a in range(len(rule))]
