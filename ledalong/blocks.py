@@ -7,10 +7,7 @@ from ledalong.kinds import is_below, is_number, is_rule
 def block_of(rule, letter, level):
     """The block of the letter of this level."""
     need_block(rule, letter, level)
-    block = (letter,)
-    for _ in range(level):
-        block = spread(rule, block)
-    return block
+    return block_in(rule, letter, level)
 
 
 def length_of(rule, letter, level):
@@ -36,6 +33,14 @@ def need_block(rule, letter, level):
     need(is_rule(rule), "rule")
     need(is_below(letter, len(rule)), "letter")
     need(is_number(level), "level")
+
+
+def block_in(rule, letter, level):
+    """The block of a letter of a level."""
+    block = (letter,)
+    for _ in range(level):
+        block = spread(rule, block)
+    return block
 
 
 def length_rows(rule, level):

@@ -70,6 +70,23 @@ def is_order(thing, many):
     return is_long(thing, many) and are_below(thing, many) and len(set(thing)) == many
 
 
+def is_map(thing):
+    """Whether any value is a nonempty tuple of numbers below how many they are."""
+    return is_full(thing) and are_below(thing, len(thing))
+
+
+def is_same(thing, told):
+    """Whether any value is this number, or this tuple of such, True being no 1 within it."""
+    if isinstance(told, tuple):
+        return is_long(thing, len(told)) and all([is_same(part, other) for part, other in zip(thing, told)])
+    return is_number(thing) and thing == told
+
+
+def fits(rule, thing):
+    """Whether any value is a machine with as many letters as the rule."""
+    return is_machine(thing) and len(thing[0]) == len(rule)
+
+
 def is_even(rule):
     """Whether all blocks of a rule are equally long."""
     return len({len(block) for block in rule}) == 1

@@ -4,7 +4,7 @@ A table is a list of rows, one for each state, with the state to which each lett
 The map of a word along a table is the list of the states to which it leads, from each in order.
 """
 
-from ledalong.helper import added_up, need, next_blocks, spread
+from ledalong.helper import added_up, need, next_blocks, spread, word_map
 from ledalong.kinds import are_below, is_number, is_rule
 
 
@@ -165,11 +165,3 @@ def far_maps(rule, table, least):
         maps = [word_map(maps, block) for block in rule]
         lengths = added_up(rule, lengths)
     return maps
-
-
-def word_map(maps, word):
-    """The map of a word, not (), whose letters have these maps."""
-    states = maps[word[0]]
-    for a in word[1:]:
-        states = [maps[a][state] for state in states]
-    return states

@@ -84,3 +84,32 @@ def run(machine, standing, word):
         answers += (machine[standing][a][1],)
         standing = machine[standing][a][0]
     return standing, answers
+
+
+def goals(machine, word):
+    """The map of a word, each standing led letter by letter."""
+    return tuple(run(machine, standing, word)[0] for standing in range(len(machine)))
+
+
+def shorter_first(words):
+    """Words in their order: shorter ones first."""
+    return sorted(words, key=lambda word: (len(word), word))
+
+
+def alike(machine, one, beside, other):
+    """Whether two standings, of the same machine or of two, give the same answers to all words.
+
+    If they do to all words with as many letters as both have standings together, they do to all.
+    """
+    pairs = {(one, other)}
+    for _ in range(len(machine) + len(beside)):
+        for q, s in pairs:
+            if any(machine[q][a][1] != beside[s][a][1] for a in range(len(machine[0]))):
+                return False
+        pairs = {(machine[q][a][0], beside[s][a][0]) for q, s in pairs for a in range(len(machine[0]))}
+    return True
+
+
+def subsets(many):
+    """All ascending tuples of numbers below many."""
+    return [tuple(q for q in range(many) if (k >> q) & 1) for k in range(1 << many)]

@@ -1,6 +1,7 @@
 """Rules, machines and readers for the tests, values that are none, and how refusals are asked for."""
 
 import itertools
+import random
 import unittest
 
 from ledalong.errors import InvalidPaper, NotUsable
@@ -90,6 +91,74 @@ def no_below(many):
 def no_words(many):
     """Values that are no tuple of numbers below many."""
     return NO_TUPLES + ((many,), (0, many), (-1,), (0, -1), (True,), (0, False), (None,), ("0",), ((0,),), ([0],), (0, [0]))
+
+
+def no_sets(many):
+    """Values that are no set of numbers below many, many being 2 or more."""
+    return no_words(many) + ((1, 0), (0, 0), (1, 1), (0, 1, 1), (0, 1, 0))
+
+
+# Values that are no map, however many numbers it may have.
+NO_MAPS = NO_TUPLES + (
+    (), (1,), (-1,), (True,), (False,), (None,), ("0",), ((0,),), ([0],), (2, 0), (0, 2), (0, 1, 3), (0, -1), (0, True),
+    (False, 0), (0, None), (0, (1,)), [0, 1],
+)
+
+
+def no_maps(many):
+    """Values that are no map with so many numbers, 2 or more."""
+    return NO_MAPS + ((0,) * (many - 1), (0,) * (many + 1), (0,) * (many - 1) + (many,), tuple(range(many + 1)), [0] * many)
+
+
+def no_answers(many):
+    """Values that are no tuple of so many numbers, 1 or more."""
+    rest = (0,) * (many - 1)
+    wrong = ((), rest, rest + (0, 0), [0] * many, rest + (-1,), rest + (True,), rest + (None,), rest + ("0",), rest + ((0,),))
+    return NO_TUPLES + wrong + ((False,) + rest, ([0],) + rest)
+
+
+def no_fitting(letters):
+    """Values that are no machine with so many letters."""
+    others = tuple((((0, 0),) * many,) for many in range(1, 6) if many != letters)
+    return NO_MACHINES + others + tuple(other * 2 for other in others)
+
+
+def machine_of(columns, chance, answers=2):
+    """The machine whose letters have these maps, with answers by chance."""
+    return tuple(tuple((column[q], chance.randrange(answers)) for column in columns) for q in range(len(columns[0])))
+
+
+def some_machines(letters, most=4, each=1):
+    """Machines by chance, always the same ones, with so many letters and up to most standings.
+
+    Of each number of standings: any, one to one, with one letter that resets, both of these, apart (two
+    lots of standings that no letter leaves), and with a copy of a standing.
+    """
+    chance = random.Random(100 * letters + most)
+    found = []
+    for many, _ in itertools.product(range(1, most + 1), range(each)):
+        def any_column():
+            return [chance.randrange(many) for _ in range(many)]
+
+        def turning():
+            return chance.sample(range(many), many)
+
+        reset = [chance.randrange(many)] * many
+        found.append(machine_of([any_column() for _ in range(letters)], chance, 3))
+        found.append(machine_of([turning() for _ in range(letters)], chance))
+        found.append(machine_of([reset] + [any_column() for _ in range(letters - 1)], chance))
+        found.append(machine_of([turning() for _ in range(letters - 1)] + [reset], chance))
+        if many > 1:
+            cut = chance.randrange(1, many)
+            apart = [[chance.randrange(cut) if q < cut else chance.randrange(cut, many) for q in range(many)]
+                     for _ in range(letters)]
+            found.append(machine_of(apart, chance))
+            less = machine_of([[chance.randrange(many - 1) for _ in range(many - 1)] for _ in range(letters)], chance)
+            twin = chance.randrange(many - 1)
+            copied = [tuple((chance.choice((goal, many - 1)) if goal == twin else goal, answer) for goal, answer in part)
+                      for part in less]
+            found.append(tuple(copied) + (copied[twin],))
+    return found
 
 
 def words_over(letters, longest):

@@ -7,7 +7,7 @@ import unittest
 from ledalong.errors import LedError
 
 FOLDER = os.path.join(os.path.dirname(os.path.abspath(__file__)), "examples")
-STAGES = ("stage1", "stage2", "stage3", "stage4", "stage5", "stage6", "stage7", "stage8")
+STAGES = tuple(f"stage{n}" for n in range(1, 13))
 
 
 def examples_of(name):

@@ -10,12 +10,16 @@ ROOT = os.path.join(os.path.dirname(os.path.dirname(os.path.abspath(__file__))),
 BUILTINS = set("""len range enumerate zip min max sum abs sorted reversed int str bool list tuple dict set isinstance ord repr
 any all divmod ValueError iter staticmethod property""".split())
 METHODS = set("""append count endswith extend find get index insert isdigit isascii items join keys pop split startswith
-bit_length""".split())
+bit_length setdefault values""".split())
 BARRED = re.compile(r"\b(type|typing|enum|Enum|Flag|Generic|Protocol|ABC|namedtuple|register|mro|elements|open|input|law)\b")
 ON_THE_SPOT = ("range", "zip", "enumerate", "reversed")
 TAKERS = ("list", "tuple", "dict", "sorted", "sum", "any", "all", "enumerate", "zip", "min", "max", "len", "reversed")
+VIEWS = ("items", "keys", "values")
 STATEMENTS = (ast.Import, ast.Global, ast.AsyncFunctionDef, ast.AsyncFor, ast.AsyncWith, ast.Await, ast.Yield, ast.YieldFrom,
-              ast.GeneratorExp, ast.Lambda, ast.AugAssign, ast.Try, ast.With)
+              ast.GeneratorExp, ast.AugAssign, ast.Try, ast.With)
+LIBRARY = {"math": {"gcd", "lcm", "isqrt", "comb", "perm", "factorial"}}
+PLAIN = (ast.List, ast.ListComp, ast.Dict)
+CHANGING = ("append", "clear", "extend", "insert", "pop", "remove", "reverse", "setdefault", "update", "sort")
 
 
 def files():
@@ -39,6 +43,24 @@ def with_parents(tree):
             yield child, node
 
 
+def changed_in(tree):
+    """The names of what is changed there: by an item, an attribute, or a method."""
+    found = set()
+    for node in ast.walk(tree):
+        if isinstance(node, (ast.Subscript, ast.Attribute)) and isinstance(node.ctx, (ast.Store, ast.Del)):
+            found.add(node.value)
+        if isinstance(node, ast.Call) and isinstance(node.func, ast.Attribute) and node.func.attr in CHANGING:
+            found.add(node.func.value)
+    return {getattr(node, "id", ast.dump(node)) for node in found}
+
+
+def is_quiet(method):
+    """Whether a method of a class is one that changes nothing: a property or an operator."""
+    if method.decorator_list:
+        return method.decorator_list[0].id == "property"
+    return method.name.startswith("__") and method.name not in ("__init__", "__call__")
+
+
 class Language(unittest.TestCase):
 
     def test_files_and_sizes(self):
@@ -57,11 +79,12 @@ class Language(unittest.TestCase):
         for name, _, tree in files():
             module = "ledalong." + name[:-3]
             defined[module] = {node.name for node in tree.body if isinstance(node, (ast.FunctionDef, ast.ClassDef))}
+            defined[module] |= {node.targets[0].id for node in tree.body if isinstance(node, ast.Assign)}
             imports[module] = [(node.module, alias) for node in tree.body if isinstance(node, ast.ImportFrom)
                                for alias in node.names]
         for module, found in imports.items():
             for source, alias in found:
-                self.assertIn(alias.name, defined[source], module)
+                self.assertIn(alias.name, LIBRARY.get(source) or defined[source], module)
                 self.assertIsNone(alias.asname)
         left = {module: {source for source, _ in found} for module, found in imports.items()}
         while left:
@@ -98,6 +121,7 @@ class Language(unittest.TestCase):
             bound |= {node.arg for node in ast.walk(tree) if isinstance(node, ast.arg)}
             self.assertFalse(bound & (imported | classes), name)
             self.assertFalse((bound | own) & set(dir(builtins)) - {"_"}, name)
+            self.assertFalse((bound | own) & set.union(*LIBRARY.values()), name)
             read = {node.id for node in ast.walk(tree) if isinstance(node, ast.Name) and isinstance(node.ctx, ast.Load)}
             self.assertFalse(read - bound - own - imported - BUILTINS, name)
             self.assertNotIn("_", read)
@@ -117,9 +141,40 @@ class Language(unittest.TestCase):
                 if isinstance(node, (ast.Set, ast.SetComp)) or called(node) in ("set", "frozenset"):
                     fine = called(around) in ("sorted", "len") or isinstance(around, (ast.BinOp, ast.Compare))
                     self.assertTrue(fine, where)
-                if called(node) in ON_THE_SPOT:
+                if called(node) in ON_THE_SPOT or isinstance(node, ast.Call) and getattr(node.func, "attr", "") in VIEWS:
                     fine = isinstance(around, (ast.For, ast.comprehension)) or called(around) in TAKERS
                     self.assertTrue(fine, where)
+
+    def test_lambdas_on_one_line(self):
+        for name, _, tree in files():
+            told = [(node.lineno, tuple(arg.arg for arg in node.args.args)) for node in ast.walk(tree)
+                    if isinstance(node, ast.Lambda)]
+            self.assertEqual(len(set(told)), len(told), name)
+
+    def test_what_is_iterated_is_not_changed(self):
+        for name, _, tree in files():
+            for loop in ast.walk(tree):
+                if isinstance(loop, ast.For):
+                    over = {node.id for node in ast.walk(loop.iter) if isinstance(node, ast.Name)}
+                    changed = {owner for part in loop.body for owner in changed_in(part)}
+                    self.assertFalse(over & changed, (name, loop.lineno))
+
+    def test_what_operators_and_properties_run(self):
+        functions = {node.name: node for _, _, tree in files() for node in tree.body if isinstance(node, ast.FunctionDef)}
+        left = [node for _, _, tree in files() for made in tree.body if isinstance(made, ast.ClassDef) for node in made.body
+                if isinstance(node, ast.FunctionDef) and is_quiet(node)]
+        self.assertGreater(len(left), 25)
+        seen = set()
+        while left:
+            function = left.pop()
+            fresh = {target.id for node in ast.walk(function) if isinstance(node, ast.Assign) for target in node.targets
+                     if isinstance(target, ast.Name) and (isinstance(node.value, PLAIN) or called(node.value) in ("list", "dict"))}
+            self.assertFalse(changed_in(function) - fresh, function.name)
+            for node in ast.walk(function):
+                self.assertNotIn(called(node), {arg.arg for arg in function.args.args}, function.name)
+                if called(node) in functions and called(node) not in seen:
+                    seen.add(called(node))
+                    left.append(functions[called(node)])
 
     def test_words_and_strings(self):
         for name, text, tree in files():
