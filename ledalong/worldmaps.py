@@ -8,6 +8,7 @@ from ledalong.worlds import is_growing, words_in
 
 # Words are looked for among those of at most NEAR letters first, and then of twice as many, and so on.
 NEAR = 8
+FEW = 4
 
 
 def maps_in_world(rule, machine):
@@ -46,8 +47,10 @@ def maps_in(rule, machine):
     states = {}
     seams = {}
     found = {}
-    most = len(maps_of_all(machine))
-    while state not in states and len(found) < most:
+    # With few standings it is soon told how many maps all words of the letters have, world or not: then
+    # one may stop at so many, though families may be long in coming round.
+    most = len(maps_of_all(machine)) if len(machine) <= FEW else -1
+    while state not in states and len(found) != most:
         states[state] = True
         for seam in seams_in(rule, state):
             if seam not in seams:

@@ -1,6 +1,7 @@
 """[46], [47]: the maps of all words of a machine's letters."""
 
 import itertools
+import unittest
 
 from ledalong.allmaps import all_maps, least_settling, least_word_for
 from ledalong.leading import joined_map, map_of
@@ -105,3 +106,7 @@ class AllMaps(Case):
             self.refuses_each(least_word_for, {"machine": machine, "lead": lead}, wrong)
         self.refused("lead", least_word_for, SLOW, (0, 1))
         self.refused("lead", least_word_for, SLOW, (0, 1, 3))
+
+
+if __name__ == "__main__":
+    unittest.main()

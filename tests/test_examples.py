@@ -7,7 +7,7 @@ import unittest
 from ledalong.errors import LedError
 
 FOLDER = os.path.join(os.path.dirname(os.path.abspath(__file__)), "examples")
-STAGES = tuple(f"stage{n}" for n in range(1, 13))
+STAGES = tuple(f"stage{n}" for n in range(1, 15))
 
 
 def examples_of(name):

@@ -2,6 +2,7 @@
 
 import functools
 import itertools
+import unittest
 
 from ledalong.families import block_map, family_of, level_of_family, period_of, start_of
 from ledalong.changes import answers_renamed
@@ -154,3 +155,7 @@ class FamilyTests(Case):
                               {"rule": NO_RULES, "machine": no_fitting(2), "family": wrong})
         self.refused("family", level_of_family, GOLD, COUNT, (lead, lead))
         self.refused("family", level_of_family, ((0, 0),), (((0, 0),),), ((0,), (0,)))
+
+
+if __name__ == "__main__":
+    unittest.main()

@@ -36,14 +36,36 @@ FUNCTIONS = {
     "families": ("family_of(rule, machine, level)", "block_map(rule, machine, letter, level)", "start_of(rule, machine)",
                  "period_of(rule, machine)", "level_of_family(rule, machine, family)"),
     "worldmaps": ("maps_in_world(rule, machine)", "word_with_map(rule, machine, goal)"),
+    "familypapers": ("family_paper(rule, machine)", "lets_family(rule, machine, thing)"),
+    "forgetting": ("memory_of(rule, machine)", "forgets(rule, machine)", "settling_word(rule, machine)",
+                   "delay_of(rule, machine)", "sets_behind(rule, machine)"),
+    "wakings": ("settles(rule, machine, word)", "behind(rule, machine, word)", "classes_by(rule, machine, word)",
+                "standing_told(rule, machine, word)", "carried_on(rule, machine, word, more)"),
+    "forgetpapers": ("forget_paper(rule, machine)",),
+    "forgetchecker": ("lets_forget(rule, machine, thing)",),
+    "pairrules": ("pair_rule(rule, machine)", "pair_words(rule, machine)", "pair_paper(rule, machine)",
+                  "lets_pairs(rule, machine, thing)"),
     "parents": ("parents_of(rule, word)", "is_parent(rule, word, thing)", "grandparents(rule, word, n)",
                 "one_parent(rule, length)", "seams_of(rule, word)", "seams_told(rule, length)", "told_from(rule, most)"),
 }
-COMMON = ("read", "__init__", "__getitem__", "__call__", "__contains__", "__len__", "__iter__", "__eq__", "__str__")
+COMMON = ("read(text)", "__init__", "__getitem__", "__call__(self, word)", "__contains__", "__len__", "__iter__", "__eq__")
 CLASSES = {
-    "Rule(blocks)": COMMON + ("rule_now", "even_now", "__pow__", "__invert__"),
-    "Machine(standings)": COMMON + ("machine_now", "letters_now", "__add__"),
-    "Reader(base, moves, shows)": COMMON + ("reader_now", "base_now"),
+    "objects": {
+        "Rule(blocks)": COMMON + ("rule_now", "even_now", "__pow__", "__invert__", "__str__"),
+        "Machine(standings)": COMMON[:3] + ("__call__(self, standing, word)",) + COMMON[4:] + (
+            "machine_now", "letters_now", "__add__", "__str__"),
+        "Reader(base, moves, shows)": COMMON[:3] + ("__call__(self, number)",) + COMMON[4:] + (
+            "reader_now", "base_now", "__str__"),
+    },
+    "familyclasses": {
+        "Families(rule, machine)": COMMON[1:3] + ("__call__(self, letter, level)",) + COMMON[4:] + (
+            "rule_now", "machine_now", "start_now", "period_now"),
+    },
+    "forgetclasses": {
+        "Forgetting(rule, machine)": COMMON[1:2] + COMMON[3:] + (
+            "rule_now", "machine_now", "memory_now", "delay_now", "sets_now", "classes(self, word)", "told(self, word)",
+            "carried(self, word, more)", "meets(self, waking, other, word)", "__str__"),
+    },
 }
 
 
@@ -59,15 +81,21 @@ class Interface(unittest.TestCase):
                 self.assertEqual(function.__name__ + str(inspect.signature(function)), text)
 
     def test_classes(self):
-        module = importlib.import_module("ledalong.objects")
-        for text, names in CLASSES.items():
-            made = getattr(module, text.split("(")[0])
-            self.assertEqual(made.__module__, "ledalong.objects")
-            self.assertEqual(made.__name__ + str(inspect.signature(made)), text)
-            for name in names:
-                self.assertIn(name, vars(made))
-            self.assertIsInstance(vars(made)["read"], staticmethod)
-            self.assertEqual(str(inspect.signature(made.read)), "(text)")
+        for name, classes in CLASSES.items():
+            module = importlib.import_module("ledalong." + name)
+            for text, parts in classes.items():
+                made = getattr(module, text.split("(")[0])
+                self.assertTrue(inspect.isclass(made))
+                self.assertEqual(made.__module__, "ledalong." + name)
+                self.assertEqual(made.__name__ + str(inspect.signature(made)), text)
+                for part in parts:
+                    self.assertIn(part.split("(")[0], vars(made))
+                    if "(" in part:
+                        self.assertEqual(str(inspect.signature(getattr(made, part.split("(")[0]))), "(" + part.split("(")[1])
+                    if part.endswith("_now"):
+                        self.assertIsInstance(vars(made)[part], property)
+                if "read(text)" in parts:
+                    self.assertIsInstance(vars(made)["read"], staticmethod)
 
 
 if __name__ == "__main__":

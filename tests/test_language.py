@@ -163,7 +163,7 @@ class Language(unittest.TestCase):
         functions = {node.name: node for _, _, tree in files() for node in tree.body if isinstance(node, ast.FunctionDef)}
         left = [node for _, _, tree in files() for made in tree.body if isinstance(made, ast.ClassDef) for node in made.body
                 if isinstance(node, ast.FunctionDef) and is_quiet(node)]
-        self.assertGreater(len(left), 25)
+        self.assertGreater(len(left), 40)
         seen = set()
         while left:
             function = left.pop()

@@ -2,6 +2,7 @@
 
 import itertools
 import math
+import unittest
 
 from ledalong.leading import answers_to, joined_map, leads, map_of, map_round, rank_of
 from tests import plain
@@ -136,3 +137,7 @@ class Leading(Case):
         self.refused("second", joined_map, (0, 1, 2), (0, 1))
         self.refused("first", joined_map, (0, 1, 3), (0, 1))
         self.refused("first", map_round, ((0, 0),))
+
+
+if __name__ == "__main__":
+    unittest.main()

@@ -1,6 +1,7 @@
 """[48], [50]: standings that are alike, and sets of standings that no letter leaves."""
 
 import itertools
+import unittest
 
 from ledalong.likeness import alike_standings, closed_sets, homing_word, is_closed_set, merged, parting
 from ledalong.replacing import are_alike
@@ -134,3 +135,7 @@ class Likeness(Case):
             self.refuses_each(is_closed_set, {"machine": machine, "standings": (1,)}, wrong)
         self.refused("other", parting, SLOW, 2, 3)
         self.refused("standings", is_closed_set, SLOW, (0, 3))
+
+
+if __name__ == "__main__":
+    unittest.main()

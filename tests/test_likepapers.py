@@ -1,5 +1,7 @@
 """[49], [50]: papers on whether two machines are alike."""
 
+import unittest
+
 from ledalong.errors import InvalidPaper
 from ledalong.likepapers import alike_paper, lets_alike
 from tests import plain
@@ -189,3 +191,7 @@ class LikePapers(Case):
             self.refused("other", lets_alike, ROUND, value, None)
         for value in NO_MACHINES:
             self.refused("one", lets_alike, value, None, None)
+
+
+if __name__ == "__main__":
+    unittest.main()

@@ -1,6 +1,7 @@
 """[49], [50]: which machine may replace which one, whatever the rule."""
 
 import itertools
+import unittest
 
 from ledalong.changes import answers_renamed, standings_renamed
 from ledalong.likeness import merged
@@ -121,3 +122,7 @@ class Replacing(Case):
             self.refuses_each(function, {"one": SLOW, "other": LAST}, {"one": NO_MACHINES, "other": no_fitting(2)})
             self.refused("other", function, ROUND, TURN)
             self.refused("other", function, TURN, ROUND)
+
+
+if __name__ == "__main__":
+    unittest.main()

@@ -1,6 +1,7 @@
 """[45], [47]: in which standings a machine may be, or may have woken."""
 
 import itertools
+import unittest
 
 from ledalong.leading import leads
 from ledalong.waking import now_in, standings_behind, woke_as
@@ -66,3 +67,7 @@ class Waking(Case):
         self.refused("standings", standings_behind, TURN, (0, 2), (0,))
         self.refused("standings", standings_behind, (((0, 0),),), (1,), (0,))
         self.refused("word", standings_behind, TURN, (), (2,))
+
+
+if __name__ == "__main__":
+    unittest.main()

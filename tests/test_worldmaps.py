@@ -2,6 +2,7 @@
 
 import functools
 import itertools
+import unittest
 
 from ledalong.families import family_of, period_of, start_of
 from ledalong.leading import joined_map
@@ -180,3 +181,7 @@ class WorldMaps(Case):
             self.refuses_each(word_with_map, {"rule": rule, "machine": machine, "goal": (0, 0)}, wrong)
         self.refused("goal", word_with_map, BRANCHING[0], COUNT, (0, 1))
         self.refused("goal", word_with_map, BRANCHING[0], COUNT, (0, 1, 3))
+
+
+if __name__ == "__main__":
+    unittest.main()
