@@ -27,6 +27,7 @@ def unmet(one, other):
 def need_both(one, other):
     """Refuse what is no machine, and no other one with as many letters."""
     need(is_machine(one), "one")
+    # A standing has a pair for each letter, as a rule has a block.
     need(fits(one[0], other), "other")
 
 

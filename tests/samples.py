@@ -190,6 +190,16 @@ class Case(unittest.TestCase):
         self.exactly((caught.exception.word, caught.exception.at), (word, at))
         self.assertIs(caught.exception.__class__, InvalidPaper)
 
+    def as_told(self, fault, result, function, *arguments):
+        """A judge tells the fault that a slow judge has found, or, if this found none, gives the result."""
+        before = repr(arguments)
+        if fault is None:
+            self.exactly(function(*arguments), result)
+        else:
+            self.judged(*fault, function, *arguments)
+        self.assertEqual(repr(arguments), before)
+        return fault and fault[0]
+
     def refuses_each(self, function, right, wrong):
         """Each parameter refused by its name: later ones right, or wrong, too; by place and by name.
 

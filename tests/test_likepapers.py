@@ -79,17 +79,12 @@ def changed(thing, values):
 
 class LikePapers(Case):
 
-    def as_told(self, one, other, thing):
-        """The judge tells what the slow judge of the test tells."""
+    def judge(self, one, other, thing):
+        """What the judge tells is what the slow judge does, and it is so."""
         fault = plain_fault(one, other, thing)
-        before = repr((one, other, thing))
         if fault is None:
-            self.assertIs(lets_alike(one, other, thing), thing[0] == "alike")
             self.assertIs(are_alike_by_words(one, other), thing[0] == "alike")
-        else:
-            self.judged(*fault, lets_alike, one, other, thing)
-        self.assertEqual(repr((one, other, thing)), before)
-        return fault and fault[0]
+        return self.as_told(fault, fault is None and thing[0] == "alike", lets_alike, one, other, thing)
 
     def test_papers(self):
         for one, other in PAIRS:
@@ -104,21 +99,21 @@ class LikePapers(Case):
         found = set()
         for one, other in PAIRS[::3] + [(ROUND, FLIP), (FLIP, ROUND), (TURN, LAST), (STILL, ZERO)]:
             for thing in changed(alike_paper(one, other), (0, 1, 2, True, (), (0,), (1, 0), None)):
-                found.add(self.as_told(one, other, thing))
+                found.add(self.judge(one, other, thing))
         self.assertEqual(found, {None, "shape", "marks", "lacks", "answer", "next", "side", "standing", "many", "word"})
 
     def test_papers_of_other_machines(self):
         papers = [alike_paper(one, other) for one, other in PAIRS[::5]]
         for one, other in PAIRS[::15]:
             for paper in papers:
-                self.as_told(one, other, paper)
+                self.judge(one, other, paper)
 
     def test_all_marks(self):
         for one, other in ((ROUND, FLIP), (STILL, ZERO), (STILL, STILL), (FLIP, STILL), (TURN, LAST)):
             places = len(one) + len(other)
             for k in range(3 ** places):
                 marks = tuple(k // 3 ** place % 3 for place in range(places))
-                self.as_told(one, other, ("alike", marks[:len(one)], marks[len(one):]))
+                self.judge(one, other, ("alike", marks[:len(one)], marks[len(one):]))
 
     def test_shape(self):
         wrong = NO_TUPLES + (

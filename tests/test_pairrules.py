@@ -88,16 +88,10 @@ def plain_fault(rule, machine, thing):
 
 class PairRules(Case):
 
-    def as_told(self, rule, machine, thing):
-        """The judge tells what the slow judge of the test tells."""
+    def judge(self, rule, machine, thing):
+        """What the judge tells is what the slow judge does."""
         fault = plain_fault(rule, machine, thing)
-        before = repr(thing)
-        if fault is None:
-            self.exactly(lets_pairs(rule, machine, thing), len(rule) * len(machine))
-        else:
-            self.judged(*fault, lets_pairs, rule, machine, thing)
-        self.assertEqual(repr(thing), before)
-        return fault and fault[0]
+        return self.as_told(fault, len(rule) * len(machine), lets_pairs, rule, machine, thing)
 
     def test_many_cases(self):
         self.assertGreater(len(PAIRS), 200)
@@ -167,7 +161,7 @@ class PairRules(Case):
             paper = pair_paper(rule, machine)
             if sum(len(row) for row in paper[2] + paper[3]) < 60:
                 for thing in changed(paper, (0, 1, 2, True, False, (), (0,), None)):
-                    found.add(self.as_told(rule, machine, thing))
+                    found.add(self.judge(rule, machine, thing))
         self.assertEqual(found, {None, "shape", "levels", "blocks", "words", "block", "word"})
 
     def test_papers_of_other_rules_and_machines(self):
@@ -175,7 +169,7 @@ class PairRules(Case):
         for rule, machine in PAIRS[::30]:
             for paper in papers:
                 if max(letters_together(rule, paper[0]), letters_together(rule, paper[1])) < 3000:
-                    self.as_told(rule, machine, paper)
+                    self.judge(rule, machine, paper)
 
     def test_shape(self):
         paper = (2, 1, ROWS, WORDS)
