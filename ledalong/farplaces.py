@@ -11,7 +11,7 @@ def letter_at(rule, letter, level, place):
     need_block(rule, letter, level)
     rows = length_rows(rule, level)
     need(is_below(place, rows[level][letter]), "place")
-    for index in path_in(rule, rows, letter, level, place):
+    for index in path_in(rule, rows, letter, place):
         letter = rule[letter][index]
     return letter
 
@@ -23,10 +23,15 @@ def word_at(rule, letter, level, place, length):
     whole = rows[level][letter]
     need(is_below(place, whole + 1), "place")
     need(is_below(length, whole - place + 1), "length")
+    return word_in(rule, rows, letter, place, length)
+
+
+def word_in(rule, rows, letter, place, length):
+    """So many letters from the place on of the letter's block of the last level of which rows tell lengths."""
     if length == 0:
         return ()
     word = (letter,)
-    for below in range(level - 1, -1, -1):
+    for below in range(len(rows) - 2, -1, -1):
         word, place = cut_word(rows[below], spread(rule, word), place, length)
     return word
 
@@ -50,13 +55,13 @@ def path_to(rule, letter, level, place):
     need_block(rule, letter, level)
     rows = length_rows(rule, level)
     need(is_below(place, rows[level][letter]), "place")
-    return path_in(rule, rows, letter, level, place)
+    return path_in(rule, rows, letter, place)
 
 
-def path_in(rule, rows, letter, level, place):
-    """The path to the place of a block that has it; rows tell lengths."""
+def path_in(rule, rows, letter, place):
+    """The path to a place that the letter's block of the last level of which rows tell lengths has."""
     path = []
-    for below in range(level - 1, -1, -1):
+    for below in range(len(rows) - 2, -1, -1):
         index = 0
         while place >= rows[below][rule[letter][index]]:
             place = place - rows[below][rule[letter][index]]
@@ -104,7 +109,7 @@ def count_before(rule, letter, level, place, other):
     counts = count_rows(rule, other, level)
     if place == rows[level][letter]:
         return counts[level][letter]
-    return passed_by(rule, counts, letter, path_in(rule, rows, letter, level, place))
+    return passed_by(rule, counts, letter, path_in(rule, rows, letter, place))
 
 
 def place_of(rule, letter, level, other, index):
@@ -115,7 +120,7 @@ def place_of(rule, letter, level, other, index):
     counts = count_rows(rule, other, level)
     if index >= counts[level][letter]:
         return None
-    path = path_in(rule, counts, letter, level, index)
+    path = path_in(rule, counts, letter, index)
     return passed_by(rule, length_rows(rule, level), letter, path)
 
 

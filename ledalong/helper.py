@@ -72,6 +72,14 @@ def led(machine, standing, word):
     return standing, tuple(answers)
 
 
+def firsts_of(things):
+    """For each thing the index of the first one that is the same."""
+    firsts = {}
+    for k, thing in enumerate(things):
+        firsts.setdefault(thing, k)
+    return tuple([firsts[thing] for thing in things])
+
+
 def digits_in(base, number):
     """The digits of the number in the base, from the highest one on; () for 0."""
     digits = []

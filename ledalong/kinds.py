@@ -76,10 +76,10 @@ def is_map(thing):
 
 
 def is_same(thing, told):
-    """Whether any value is this number, or this tuple of such, True being no 1 within it."""
+    """Whether any value is this integer, or this tuple of such, True being no 1 within it."""
     if isinstance(told, tuple):
         return is_long(thing, len(told)) and all([is_same(part, other) for part, other in zip(thing, told)])
-    return is_number(thing) and thing == told
+    return is_integer(thing) and thing == told
 
 
 def fits(rule, thing):
@@ -124,32 +124,38 @@ def machine_fault(thing):
 
 def reader_fault(thing):
     """The first fault of any value as a reader, or None."""
+    fault = moves_fault(thing)
+    if fault is not None:
+        return fault
+    _, moves, shows = thing
+    if moves[0][0] != 0:
+        return "begin", -1
+    return shows_fault(moves, shows)
+
+
+def moves_fault(thing):
+    """The first fault of any value as a reader ahead of what hangs on where it begins and what it shows, or None."""
     if not is_long(thing, 3):
         return "shape", -1
-    base, moves, shows = thing
+    base, moves, _ = thing
     if not (is_integer(base) and base >= 2):
         return "base", -1
     if not is_full(moves):
         return "moves", -1
-    fault = moves_fault(base, moves)
-    if fault is not None:
-        return fault
-    if moves[0][0] != 0:
-        return "begin", -1
-    if not is_long(shows, len(moves)):
-        return "shows", -1
-    for k, show in enumerate(shows):
-        if not is_number(show):
-            return "show", k
-    return None
-
-
-def moves_fault(base, moves):
-    """The first fault of the places of a reader, as far as each one's moves tell, or None."""
     for k, place in enumerate(moves):
         if not is_long(place, base):
             return "place", k
         for digit, goal in enumerate(place):
             if not is_below(goal, len(moves)):
                 return "move", (k, digit)
+    return None
+
+
+def shows_fault(moves, shows):
+    """The first fault of any value as what a reader shows at its places, or None."""
+    if not is_long(shows, len(moves)):
+        return "shows", -1
+    for k, show in enumerate(shows):
+        if not is_number(show):
+            return "show", k
     return None

@@ -1,7 +1,7 @@
 """Standings that are alike, machines without such ones, and sets of standings that no letter leaves."""
 
 from ledalong.changes import is_closed
-from ledalong.helper import least_word_to, need, reached
+from ledalong.helper import firsts_of, least_word_to, need, reached
 from ledalong.kinds import is_below, is_index_set, is_machine
 
 
@@ -58,7 +58,7 @@ def marks_in(machine):
     while len(set(marks)) > many:
         many = len(set(marks))
         told = [tuple([(marks[goal], answer) for goal, answer in standing]) for standing in machine]
-        marks = [told.index(one) for one in told]
+        marks = firsts_of(told)
     return marks
 
 

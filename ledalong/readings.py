@@ -34,7 +34,11 @@ def word_read(text):
 
 def machine_read(text):
     """The machine that the text writes."""
-    fields = fields_of(text, "machine")
+    return standings_in(fields_of(text, "machine"))
+
+
+def standings_in(fields):
+    """The machine whose standings are written in the words behind the first one."""
     must_have(fields, 1)
     standings = []
     for at in range(1, len(fields)):

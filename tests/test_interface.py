@@ -45,6 +45,25 @@ FUNCTIONS = {
     "forgetchecker": ("lets_forget(rule, machine, thing)",),
     "pairrules": ("pair_rule(rule, machine)", "pair_words(rule, machine)", "pair_paper(rule, machine)",
                   "lets_pairs(rule, machine, thing)"),
+    "faranswers": ("answers_of(rule, machine, letter, standing, level, first, many)",
+                   "standing_at(rule, machine, letter, standing, level, place)",
+                   "answer_at(rule, machine, letter, standing, level, place)"),
+    "answercounts": ("counts_of(rule, machine, letter, standing, level, many)",
+                     "first_of(rule, machine, letter, standing, level, answer)"),
+    "worldstands": ("may_stand(rule, one, other, *, letters=0)", "failing_word(rule, one, other, *, letters=0)",
+                    "least_letters(rule, one, other)"),
+    "worldpapers": ("stand_paper(rule, one, other, *, letters=0)", "lets_stand(rule, one, other, thing, *, letters=0)"),
+    "endlooks": ("agree_behind(rule, one, other)", "plain_word(rule, one, other)"),
+    "readers": ("digits_of(base, number)", "number_read(reader, number)", "reader_of(rule)", "rule_of(reader)",
+                "least_reader(reader)", "parting_number(reader, other)", "reader_both(reader, other)"),
+    "kernels": ("is_low(thing)", "low_read(low, number)", "kernel_of(reader)", "reader_from(low)",
+                "every(reader, step, begin)"),
+    "shares": ("shares_of(rule)", "pair_shares(rule)", "share_of_word(rule, word)"),
+    "answerreaders": ("answer_shares(rule, machine)", "answer_reader(rule, machine, standing)"),
+    "walkerevents": ("is_event(thing)", "is_log(thing)"),
+    "walkers": ("replayed(log)",),
+    "walkertexts": ("event_line(event)", "log_lines(log)"),
+    "walkerreadings": ("read_event(text)", "read_log(lines)"),
     "parents": ("parents_of(rule, word)", "is_parent(rule, word, thing)", "grandparents(rule, word, n)",
                 "one_parent(rule, length)", "seams_of(rule, word)", "seams_told(rule, length)", "told_from(rule, most)"),
 }
@@ -66,6 +85,26 @@ CLASSES = {
             "rule_now", "machine_now", "memory_now", "delay_now", "sets_now", "classes(self, word)", "told(self, word)",
             "carried(self, word, more)", "meets(self, waking, other, word)", "__str__"),
     },
+    "answerrows": {
+        "AnswerRow(rule, machine, letter, standing)": COMMON[1:3] + ("__call__(self, first, many)", "__contains__", "__eq__") + (
+            "rule_now", "machine_now", "letter_now", "standing_now", "step_now", "answers_now", "counted(self, many)",
+            "first_place(self, answer)", "from_standing(self, standing)"),
+    },
+    "alongclasses": {
+        "Along(rule, one, other)": COMMON[1:] + (
+            "rule_now", "one_now", "other_now", "pairs_now", "shows(self, thing)", "turned_about(self)", "may(self, letters=0)",
+            "fails(self, letters=0)", "paper(self, letters=0)", "judged(self, thing, letters=0)", "least(self)", "agree(self)",
+            "plain(self)"),
+    },
+    "walkers": {
+        "Walker(rule, machine)": COMMON[1:3] + COMMON[4:] + (
+            "rule_now", "machine_now", "gone_now", "trail_now", "names_now", "wakings_now", "possible_now", "told_now",
+            "rank_now", "settled_now", "classes_now", "happen(self, event)", "go(self, letter)", "jump(self, letter, level)",
+            "hear(self, answers)", "swap(self, machine)", "mark(self, name)", "undo(self)", "do_all(self, *events, keep=False)",
+            "barred(self, event)", "tried(self, *events)", "said(self, waking)", "coming(self)", "since(self, name)",
+            "log(self)", "counts(self)", "__iadd__", "MOST"),
+    },
+    "desk": {"Desk(rule, machine)": ("__init__", "say(self, row)")},
 }
 
 

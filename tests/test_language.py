@@ -8,7 +8,7 @@ import unittest
 
 ROOT = os.path.join(os.path.dirname(os.path.dirname(os.path.abspath(__file__))), "ledalong")
 BUILTINS = set("""len range enumerate zip min max sum abs sorted reversed int str bool list tuple dict set isinstance ord repr
-any all divmod ValueError iter staticmethod property""".split())
+any all divmod ValueError TypeError iter staticmethod property""".split())
 METHODS = set("""append count endswith extend find get index insert isdigit isascii items join keys pop split startswith
 bit_length setdefault values""".split())
 BARRED = re.compile(r"\b(type|typing|enum|Enum|Flag|Generic|Protocol|ABC|namedtuple|register|mro|elements|open|input|law)\b")
@@ -16,7 +16,7 @@ ON_THE_SPOT = ("range", "zip", "enumerate", "reversed")
 TAKERS = ("list", "tuple", "dict", "sorted", "sum", "any", "all", "enumerate", "zip", "min", "max", "len", "reversed")
 VIEWS = ("items", "keys", "values")
 STATEMENTS = (ast.Import, ast.Global, ast.AsyncFunctionDef, ast.AsyncFor, ast.AsyncWith, ast.Await, ast.Yield, ast.YieldFrom,
-              ast.GeneratorExp, ast.AugAssign, ast.Try, ast.With)
+              ast.GeneratorExp, ast.AugAssign, ast.With)
 LIBRARY = {"math": {"gcd", "lcm", "isqrt", "comb", "perm", "factorial"}}
 PLAIN = (ast.List, ast.ListComp, ast.Dict)
 CHANGING = ("append", "clear", "extend", "insert", "pop", "remove", "reverse", "setdefault", "update", "sort")
@@ -58,7 +58,14 @@ def is_quiet(method):
     """Whether a method of a class is one that changes nothing: a property or an operator."""
     if method.decorator_list:
         return method.decorator_list[0].id == "property"
-    return method.name.startswith("__") and method.name not in ("__init__", "__call__")
+    return method.name.startswith("__") and method.name not in ("__init__", "__call__", "__iadd__")
+
+
+def is_table(tree, value):
+    """Whether a value at module level is a dict of functions of the file."""
+    own = {node.name for node in tree.body if isinstance(node, ast.FunctionDef)}
+    return (isinstance(value, ast.Dict) and all(isinstance(key, ast.Constant) for key in value.keys)
+            and all(isinstance(part, ast.Name) and part.id in own for part in value.values))
 
 
 class Language(unittest.TestCase):
@@ -97,6 +104,7 @@ class Language(unittest.TestCase):
             for node in tree.body:
                 plain = isinstance(node, (ast.ImportFrom, ast.FunctionDef, ast.ClassDef))
                 plain = plain or isinstance(node, (ast.Expr, ast.Assign)) and isinstance(node.value, ast.Constant)
+                plain = plain or isinstance(node, ast.Assign) and is_table(tree, node.value)
                 self.assertTrue(plain, (name, node.lineno))
 
     def test_nodes(self):
@@ -119,6 +127,7 @@ class Language(unittest.TestCase):
             imported = {alias.name for node in tree.body if isinstance(node, ast.ImportFrom) for alias in node.names}
             bound = {node.id for node in ast.walk(tree) if isinstance(node, ast.Name) and isinstance(node.ctx, ast.Store)}
             bound |= {node.arg for node in ast.walk(tree) if isinstance(node, ast.arg)}
+            bound |= {node.name for node in ast.walk(tree) if isinstance(node, ast.ExceptHandler) and node.name}
             self.assertFalse(bound & (imported | classes), name)
             self.assertFalse((bound | own) & set(dir(builtins)) - {"_"}, name)
             self.assertFalse((bound | own) & set.union(*LIBRARY.values()), name)
@@ -128,11 +137,28 @@ class Language(unittest.TestCase):
             self.assertFalse(imported - read, name)
 
     def test_methods(self):
+        classes = [node for _, _, tree in files() for node in tree.body if isinstance(node, ast.ClassDef)]
+        own = {node.name for made in classes for node in made.body if isinstance(node, ast.FunctionDef)}
+        held = {node.attr for made in classes for node in ast.walk(made) if isinstance(node, ast.Attribute)
+                and isinstance(node.ctx, ast.Store)}
+        self.assertFalse(own & (METHODS | held))
         for name, _, tree in files():
             for node in ast.walk(tree):
                 if isinstance(node, ast.Call) and isinstance(node.func, ast.Attribute):
-                    self.assertIn(node.func.attr, METHODS, (name, node.lineno))
+                    self.assertIn(node.func.attr, METHODS | own, (name, node.lineno))
                     self.assertFalse(node.keywords)
+
+    def test_errors_that_are_caught(self):
+        errors = next(tree for name, _, tree in files() if name == "errors.py")
+        own = {node.name for node in errors.body if isinstance(node, ast.ClassDef)}
+        for name, _, tree in files():
+            for node in ast.walk(tree):
+                if isinstance(node, ast.Try):
+                    self.assertFalse(node.finalbody + node.orelse, name)
+                    self.assertEqual((len(node.body), len(node.handlers)), (1, 1), name)
+                    self.assertIn(node.handlers[0].type.id, own, name)
+                if isinstance(node, ast.Raise):
+                    self.assertIn(called(node.exc), own | {"TypeError"}, name)
 
     def test_sets_and_what_is_iterated_at_once(self):
         for name, _, tree in files():
