@@ -45,10 +45,10 @@ def agreeing_pairs(rule, one, other):
     """The set of the pairs of standings that give the same answers along each word of the rule."""
     both = led_at_once(one, other)
     families, start = families_in(rule, both)
+    # Each word of the rule comes behind some legal pair, and the blocks of level 0 are the letters.
     ends = dangers_in(rule, families, start)[0]
-    rows = [danger_rows(families[0], pair, ends[pair])[0] for pair in pairs_in(rule)]
     pairs = [(s, t) for s in range(len(one)) for t in range(len(other))]
-    return tuple([pair for k, pair in enumerate(pairs) if not any([row[k] for row in rows])])
+    return tuple([pair for k, pair in enumerate(pairs) if not any([row[k] for row in ends.values()])])
 
 
 def led_at_once(one, other):

@@ -65,6 +65,15 @@ class Alongs(Case):
                 found.append(triple)
         self.assertGreater(len(found), 0)
 
+    def test_letters_that_come_by_turns_of_levels(self):
+        # By these rules it hangs on the level which letter begins the blocks that follow.
+        turns, thin = ((1, 0, 1), (0, 1, 0)), ((1, 0, 1), (0,))
+        for triple, pairs in (((turns, (((1, 0), (0, 0)), ((0, 1), (0, 0))), ZERO), ((0, 0),)),
+                              ((thin, (((2, 1), (1, 0)), ((0, 1), (1, 0)), ((1, 0), (2, 1))), (((0, 1), (0, 0)),)), ((1, 0),)),
+                              ((thin, (((2, 0), (2, 0)), ((1, 1), (2, 0)), ((0, 0), (1, 0))), (((0, 1), (1, 0)), ((0, 0), (0, 0)))), ((1, 0), (2, 1)))):
+            self.exactly(Along(*triple).pairs_now, pairs)
+            self.exactly(plain_pairs(*triple), pairs)
+
     def test_words(self):
         for rule, one, other in TRIPLES[::3]:
             it = Along(rule, one, other)

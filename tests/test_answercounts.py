@@ -105,6 +105,7 @@ class AnswerCounts(Case):
         self.exactly([first_of(GOLD, one, 1, 0, 0, 4), first_of(GOLD, one, 1, 0, 0, 3), first_of(GOLD, one, 0, 0, 200, 10 ** 59)],
                      [0, None, None])
         self.exactly(counts_of(GOLD, COUNT, 0, 0, 200, 0), ())
+        self.exactly(counts_of(THUE, (((0, 10 ** 59), (1, 3)), ((0, 99), (1, 8))), 0, 0, 4, 16), ((3, 5), (8, 3), (99, 5), (10 ** 59, 3)))
 
     def test_refusals(self):
         wrong = {"rule": NO_GROWING, "machine": no_fitting(2), "letter": no_below(2), "standing": no_below(2), "level": NO_NUMBERS,

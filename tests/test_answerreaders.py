@@ -26,6 +26,8 @@ Fraction = fractions.Fraction
 FAR = 5000
 # By this rule and machine, blocks of a pair have such of the other half of the pairs alone, and these of the first half.
 TURNS = ((1, 0, 1), (0, 1, 0)), (((1, 0), (1, 1)), ((0, 2), (0, 3)))
+# Three lots in turn: along a row a letter less its standing stays the same, in a block it is one more.
+THREE = ((1, 2, 0, 1), (2, 0, 1, 2), (0, 1, 2, 0)), tuple(tuple(((q + 1) % 3, 3 * a + q) for a in range(3)) for q in range(3))
 APART = (((0, 0), (0, 1)), ((1, 2), (1, 2)), ((2, 1), (2, 0)))
 
 
@@ -163,6 +165,13 @@ class AnswerShares(Case):
                 for level in (20, 21, 200):
                     counts = counts_of(rule, machine, letter, standing, level, 3 ** level)
                     self.assertEqual(sum(near(counts, shares, Fraction(1, 10 ** 6)) for shares in answer_shares(rule, machine)), 1)
+        round_told = plain_round(*THREE)
+        self.exactly(answer_shares(*THREE), plain_answer_shares(*THREE, round_told))
+        self.exactly(answer_shares(*THREE), tuple(tuple((answer, (1, 3)) for answer in answers) for answers in ((0, 4, 8), (1, 5, 6), (2, 3, 7))))
+        for letter, _ in seeds(THREE[0]):
+            for standing in range(3):
+                self.assertIn(AnswerRow(*THREE, letter, standing).counted(3 * 10 ** 50),
+                              [tuple((answer, 10 ** 50) for answer, _ in shares) for shares in answer_shares(*THREE)])
         turning = 0
         for rule, machine, round_told in ROUNDS:
             lots = plain_lots(rule, round_told, len(machine))

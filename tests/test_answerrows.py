@@ -96,6 +96,7 @@ class AnswerRows(Case):
         third = [place for place, a in enumerate(word) if a == 2][2]
         self.exactly([one.answers_now, one.first_place(8), 8 in one, one.from_standing(2).first_place(8)],
                      [(0, 8), third, True, word.index(2)])
+        self.exactly(AnswerRow(THUE, (((0, 10 ** 59), (1, 3)), ((0, 99), (1, 8))), 0, 0).answers_now, (3, 8, 99, 10 ** 59))
         # It never comes to the standing 2 if this answers as told; then 8 is no answer of the row.
         never = (((0, 0), (0, 0), (1, 0)), ((1, 0), (1, 0), (0, 0)), ((2, 0), (2, 0), (2, 8)))
         self.exactly([AnswerRow(rule, never, 0, q).answers_now for q in range(3)], [(0,), (0,), (0, 8)])

@@ -130,6 +130,12 @@ class EndLooks(Case):
         word = plain_word(LONG, rings, rings)
         self.exactly([word.count(2), word[0], word[-1]], [2, 2, 2])
         self.assertLess(len(word), 33)
+        # By this rule blocks are as unlike in length as can be.
+        rings = tuple(((q, 0), ((q + 1) % 3, int(q == 2))) for q in range(3))
+        for rule in (((0, 0, 0, 1), (0,)), ((0, 0, 0, 1), (2,), (0,))):
+            wide = tuple(part + part[:1] * (len(rule) - 2) for part in rings)
+            self.exactly(plain_word(rule, wide, wide), min((far[:length] for length in (5, 6) for far in far_words(rule)
+                                                            if far[:length].count(1) == 2), key=lambda far: (len(far), far)))
 
     def test_edges(self):
         single, two = (((0, 3),),), (((0, 4),),)

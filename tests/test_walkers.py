@@ -207,6 +207,18 @@ class FarJumps(WalkerCase):
                     for level in (37, 100, 200):
                         self.jumped(rule, machine, letter, level)
 
+    def test_each_level(self):
+        # Lengths of blocks grow by little, so that all but the last forty letters are few letters, too.
+        lengths = set()
+        for rule in (SLOW_RULE, GOLD, ((0, 0),), ((0, 1), (2,), (0,))):
+            # It forgets nothing, and each letter leads elsewhere.
+            ring = tuple((((q + 1) % 3, q),) * len(rule) for q in range(3))
+            for level in range(60 if rule == SLOW_RULE else 20):
+                for letter in range(len(rule)):
+                    lengths.add(length_of(rule, letter, level))
+                    self.jumped(rule, ring, letter, level)
+        self.assertTrue(lengths >= {1, 2, 3, 38, 41, 48, 55})
+
     def jumped(self, rule, machine, letter, level):
         """A walker jumps at once."""
         walker = Walker(rule, machine)
@@ -516,7 +528,12 @@ class Sequences(WalkerCase):
         jumped = Walker(THUE, TURN)
         jumped.jump(0, 0)
         self.exactly([told_of(jumped) == told_of(walker), jumped == walker], [True, False])
-        for thing in (Walker(THUE, LAST), Walker(GOLD, TURN), Walker(DOUBLE, TURN), walker.log(), None, 0, True, "walker", (), [], *OBJECTS):
+        # The same events, but another rule, or another machine.
+        unlike = [Walker(rule, machine) for rule, machine in ((THUE, LAST), (GOLD, TURN), (DOUBLE, TURN))]
+        for thing in unlike:
+            thing.go(0)
+            self.exactly(list(thing), list(walker))
+        for thing in (*unlike, Walker(THUE, TURN), walker.log(), None, 0, True, "walker", (), [], *OBJECTS):
             self.assertIs(walker == thing, False)
             self.assertIs(thing == walker, False)
             self.assertIs(walker != thing, True)
